@@ -274,7 +274,8 @@ func toldFraction(num int, den int) (int, int, bool) {
 	return num / by, den / by, true
 }
 
-func greatestDivisor(a int, b int) int {
+// greatestDivisor returns the greatest common divisor of two numbers of at least 0, one of which at least is greater than 0.
+func greatestDivisor[N ~int | ~int64](a N, b N) N {
 	for b != 0 {
 		a, b = b, a%b
 	}
