@@ -602,28 +602,44 @@ func TestNoWedges(t *testing.T) {
 	checkNoWedge(t, 60, 0)
 }
 
-func TestAnglesFor(t *testing.T) {
-	found := 0
-	for images := 1; images <= 359; images++ {
-		var want []int
-		for angle := 1; angle <= 90; angle++ {
-			if isWedgeAngle(angle) && (images+1)*angle == 360 {
-				want = append(want, angle)
+// anglesByPlaces tells, for a number of images, the angles of all wedges in which something at some place has so many.
+func anglesByPlaces() map[int][]int {
+	angles := map[int][]int{}
+	for angle := 1; angle <= 90; angle++ {
+		counts := map[int]bool{}
+		for place := 1; isWedgeAngle(angle) && place < angle; place++ {
+			images := 0
+			for _, n := range degreesOfWedge(angle, place) {
+				if n > 0 {
+					images++
+				}
 			}
+			counts[images] = true
 		}
-		l, ok := impl.AnglesFor(images)
-		if !ok || len(l) != len(want) || len(l) > 1 || len(l) == 1 && l[0] != want[0] {
-			t.Fatal(images, l, ok, "instead of", want)
-		}
-		found += len(l)
-		for _, angle := range l {
-			if n, ok := impl.CountWedge(angle, 1); angle > 1 && (n != images || !ok) {
-				t.Fatal(images, angle, "count", n, ok)
-			}
+		for images := range counts {
+			angles[images] = append(angles[images], angle)
 		}
 	}
-	if found != 17 {
-		t.Error("angles", found)
+	return angles
+}
+
+func TestAnglesFor(t *testing.T) {
+	angles := anglesByPlaces()
+	if len(angles) != 16 { // 180 has 18 divisors: 180 degrees are no wedge, and in 1 degree is nothing
+		t.Error("angles", len(angles))
+	}
+	for images := 1; images <= 359; images++ {
+		l, ok := impl.AnglesFor(images)
+		if want := angles[images]; !ok || len(l) != len(want) || len(l) > 1 || len(l) == 1 && l[0] != want[0] {
+			t.Fatal(images, l, ok, "instead of", want)
+		}
+		for _, angle := range l {
+			for place := 1; place < angle; place++ {
+				if n, ok := impl.CountWedge(angle, place); n != images || !ok {
+					t.Fatal(images, angle, place, "count", n, ok)
+				}
+			}
+		}
 	}
 	for _, images := range mirrorNumbers {
 		if images >= 1 && images <= 359 {
@@ -633,12 +649,13 @@ func TestAnglesFor(t *testing.T) {
 			t.Error("no number", images, l, ok)
 		}
 	}
-	for _, c := range [][2]int{{3, 90}, {5, 60}, {179, 2}, {359, 1}} {
+	for _, c := range [][2]int{{3, 90}, {5, 60}, {119, 3}, {179, 2}} {
 		if l, ok := impl.AnglesFor(c[0]); !ok || !reflect.DeepEqual(l, []int{c[1]}) {
 			t.Error(c, l, ok)
 		}
 	}
-	for _, images := range []int{1, 2, 4, 8, 358} { // 180, 120, 72 and 40 degrees are no wedges
+	// 180, 120, 72 and 40 degrees are no wedges, 358 images are of no angle, and in a wedge of 1 degree is no place for something to have 359.
+	for _, images := range []int{1, 2, 4, 8, 358, 359} {
 		if l, ok := impl.AnglesFor(images); !ok || len(l) != 0 {
 			t.Error(images, l, ok)
 		}
