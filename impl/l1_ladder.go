@@ -268,9 +268,9 @@ func isWithin(n int, least int, most int) bool {
 	return least <= n && n <= most
 }
 
-// toldFraction returns num / den in lowest terms and true, as a call that succeeds tells it: num is at least 0, den at least 1.
+// toldFraction returns num / den in lowest terms and true, as a call that succeeds tells it: num may be less than 0, den is at least 1.
 func toldFraction(num int, den int) (int, int, bool) {
-	by := greatestDivisor(num, den)
+	by := greatestDivisor(max(num, -num), den)
 	return num / by, den / by, true
 }
 
@@ -299,8 +299,17 @@ func rootBelow(n int) int {
 
 // parseNumber reads a number of at least 0 in decimal, without sign or superfluous zeros: just as Itoa writes it.
 func parseNumber(s string) (int, bool) {
+	n, ok := parseSigned(s)
+	if !ok || n < 0 {
+		return 0, false
+	}
+	return n, true
+}
+
+// parseSigned reads a number as parseNumber does, or one less than 0 with - ahead of it.
+func parseSigned(s string) (int, bool) {
 	n, err := strconv.Atoi(s)
-	if err != nil || n < 0 || strconv.Itoa(n) != s {
+	if err != nil || strconv.Itoa(n) != s {
 		return 0, false
 	}
 	return n, true

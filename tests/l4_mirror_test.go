@@ -1142,6 +1142,12 @@ func TestImagesSideBySide(t *testing.T) {
 		})
 	}
 	group.Wait()
+	checkNoneGoesOn(t, before)
+}
+
+// checkNoneGoesOn checks that there are no more goroutines than before, as soon as those that have ended are gone.
+func checkNoneGoesOn(t *testing.T, before int) {
+	t.Helper()
 	for range 1000 {
 		if runtime.NumGoroutine() <= before {
 			return
